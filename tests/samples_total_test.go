@@ -4,8 +4,6 @@ import (
 	"fmt"
 	"math"
 	"math/rand"
-	"reflect"
-	"slices"
 	"testing"
 
 	"loop.example/g01135/impl"
@@ -31,8 +29,6 @@ type samplesCall struct {
 	uses string
 	call func(g given) []any
 }
-
-func resultsOf(results ...any) []any { return results }
 
 func samplesCalls() []samplesCall {
 	return []samplesCall{
@@ -119,8 +115,6 @@ func changedBy[T any](values []T, put func(g *given, value T)) []given {
 	return list
 }
 
-func failed(results []any) bool { return results[len(results)-1] == false }
-
 // Promise 13: no function fails for ordinary arguments, and each one fails for each argument
 // that is not valid, with zero values.
 func TestFunctionsOfSamplesFail(t *testing.T) {
@@ -139,30 +133,6 @@ func TestFunctionsOfSamplesFail(t *testing.T) {
 			}
 		}
 	}
-}
-
-// areZero tells whether all results but the last one are zero values.
-func areZero(results []any) bool {
-	for _, result := range results[:len(results)-1] {
-		if !sameText(result, reflect.Zero(reflect.TypeOf(result))) {
-			return false
-		}
-	}
-	return true
-}
-
-// roomy returns a copy of a list that has room behind its end, which a function could write to.
-func roomy[T any](list []T, rest T) []T {
-	room := append(slices.Clone(list), rest, rest, rest)
-	return room[:len(list):len(room)]
-}
-
-func roomySample(s impl.Sample) impl.Sample {
-	points := [][]int{}
-	for _, x := range s.Points {
-		points = append(points, roomy(x, 77))
-	}
-	return impl.Sample{Points: roomy(points, []int{78}), Labels: roomy(s.Labels, 79)}
 }
 
 // randomGiven returns valid and invalid arguments of all kinds.
@@ -202,75 +172,8 @@ func randomGiven(r *rand.Rand) given {
 	return g
 }
 
-// span is the memory of a slice, from its first byte to that behind its room.
-type span struct{ from, to uintptr }
-
-// walk calls a function for each slice of a value, with its elements up to its room.
-func walk(v reflect.Value, visit func(v reflect.Value)) {
-	switch v.Kind() {
-	case reflect.Slice:
-		v = v.Slice(0, v.Cap())
-		visit(v)
-		for i := range v.Len() {
-			walk(v.Index(i), visit)
-		}
-	case reflect.Struct:
-		for i := range v.NumField() {
-			walk(v.Field(i), visit)
-		}
-	}
-}
-
-func spansOf(values ...any) []span {
-	list := []span{}
-	for _, value := range values {
-		walk(reflect.ValueOf(value), func(v reflect.Value) {
-			if v.Cap() > 0 {
-				list = append(list, span{v.Pointer(), v.Pointer() + uintptr(v.Cap())*v.Type().Elem().Size()})
-			}
-		})
-	}
-	return list
-}
-
 // argumentsOf returns the arguments that have slices.
 func argumentsOf(g given) []any { return []any{g.s, g.u, g.p, g.x, g.y, g.places, g.table} }
-
-// pictureOf returns a text of all slices of arguments, with what stands in their room.
-func pictureOf(g given) string {
-	text := ""
-	for _, value := range argumentsOf(g) {
-		walk(reflect.ValueOf(value), func(v reflect.Value) { text += fmt.Sprint(v.Len(), v, ";") })
-	}
-	return text + fmt.Sprint(argumentsOf(g))
-}
-
-// overwrite puts other numbers into all slices of results.
-func overwrite(results []any) {
-	for _, result := range results {
-		walk(reflect.ValueOf(result), func(v reflect.Value) {
-			for i := range v.Len() {
-				if v.Index(i).Kind() == reflect.Int {
-					v.Index(i).SetInt(-55)
-				}
-			}
-		})
-	}
-}
-
-// sharesMemory tells whether two slices of results, or one of results and one of arguments, lie
-// in the same memory.
-func sharesMemory(results []any, g given) bool {
-	own, others := spansOf(results...), spansOf(argumentsOf(g)...)
-	for i, a := range own {
-		for _, b := range slices.Concat(own[:i], others) {
-			if a.from < b.to && b.from < a.to {
-				return true
-			}
-		}
-	}
-	return false
-}
 
 // Promise 13: each function returns, and the same again, with zero values if it fails; it
 // changes no argument, and its results lie in memory of their own.
@@ -279,7 +182,7 @@ func TestFunctionsOfSamplesAreTotal(t *testing.T) {
 	done := map[string]int{}
 	for range 1500 {
 		g := randomGiven(r)
-		before := pictureOf(g)
+		before := pictureOf(argumentsOf(g))
 		for _, f := range samplesCalls() {
 			mustReturn(t, f.name, func() {
 				results := f.call(g)
@@ -287,7 +190,7 @@ func TestFunctionsOfSamplesAreTotal(t *testing.T) {
 				if failed(results) && !areZero(results) {
 					t.Errorf("%s fails with %.200s", f.name, text)
 				}
-				if sharesMemory(results, g) {
+				if sharesMemory(results, argumentsOf(g)) {
 					t.Errorf("%s shares memory: %.200s", f.name, text)
 				}
 				overwrite(results)
@@ -298,7 +201,7 @@ func TestFunctionsOfSamplesAreTotal(t *testing.T) {
 					done[f.name]++
 				}
 			})
-			if pictureOf(g) != before {
+			if pictureOf(argumentsOf(g)) != before {
 				t.Fatalf("%s changes its arguments", f.name)
 			}
 		}
@@ -315,7 +218,7 @@ func TestSampleJoinedWithItself(t *testing.T) {
 	g := ordinary()
 	g.u = g.s
 	both, ok := impl.JoinSamples(g.s, g.u)
-	if !ok || sharesMemory(resultsOf(both), g) {
+	if !ok || sharesMemory(resultsOf(both), argumentsOf(g)) {
 		t.Errorf("%v, %v", both, ok)
 	}
 	both.Points[0][0] = 9
