@@ -84,11 +84,21 @@ func overwrite(results []any) {
 	for _, result := range results {
 		walk(reflect.ValueOf(result), func(v reflect.Value) {
 			for i := range v.Len() {
-				if v.Index(i).Kind() == reflect.Int {
-					v.Index(i).SetInt(-55)
-				}
+				overwriteNumbers(v.Index(i))
 			}
 		})
+	}
+}
+
+// overwriteNumbers puts another number into a number, and into all those of an array.
+func overwriteNumbers(v reflect.Value) {
+	switch v.Kind() {
+	case reflect.Int:
+		v.SetInt(-55)
+	case reflect.Array:
+		for i := range v.Len() {
+			overwriteNumbers(v.Index(i))
+		}
 	}
 }
 
