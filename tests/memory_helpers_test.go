@@ -4,6 +4,7 @@ import (
 	"fmt"
 	"reflect"
 	"slices"
+	"strings"
 
 	"loop.example/g01135/impl"
 )
@@ -72,11 +73,11 @@ func spansOf(values ...any) []span {
 
 // pictureOf returns a text of all slices of arguments, with what stands in their room.
 func pictureOf(arguments []any) string {
-	text := ""
+	text := strings.Builder{}
 	for _, value := range arguments {
-		walk(reflect.ValueOf(value), func(v reflect.Value) { text += fmt.Sprint(v.Len(), v, ";") })
+		walk(reflect.ValueOf(value), func(v reflect.Value) { fmt.Fprint(&text, v.Len(), v, ";") })
 	}
-	return text + fmt.Sprint(arguments)
+	return text.String() + fmt.Sprint(arguments)
 }
 
 // overwrite puts other numbers into all slices of results.
