@@ -230,17 +230,20 @@ func heftsFor(r *rand.Rand, n int) [][]int {
 }
 
 // notHefts returns lists that are no hefts for n points.
-func notHefts(n int) [][]int {
+func notHefts(n int) [][]int { return notListsTo(1000000, n) }
+
+// notListsTo returns lists that are none of n numbers in 0..most.
+func notListsTo(most, n int) [][]int {
 	all := [][]int{make([]int, n+1), slices.Repeat([]int{1}, n+1), make([]int, n+100)}
 	if n == 0 {
 		return all
 	}
 	all = append(all, nil, []int{}, make([]int, n-1))
-	for _, heft := range []int{-1, 1000001, -1000000, 2000000, math.MinInt, math.MaxInt} {
+	for _, number := range []int{-1, most + 1, -most, 2 * most, math.MinInt, math.MaxInt} {
 		for _, place := range []int{0, n - 1} {
-			hefts := slices.Repeat([]int{1}, n)
-			hefts[place] = heft
-			all = append(all, hefts)
+			list := slices.Repeat([]int{1}, n)
+			list[place] = number
+			all = append(all, list)
 		}
 	}
 	return all
